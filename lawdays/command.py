@@ -8,6 +8,7 @@ TAKE = 3
 TEXT = 4
 WORD = 5
 NAME = 6
+VOID = 7
 
 LAST_FOLLOW = 1
 
@@ -17,11 +18,13 @@ class Command:
 
     def __init__(self, kind):
         self.kind = kind
+        self.number = 0
         self.act = 0
         self.law = 0
         self.begins = 0
         self.till = 0
         self.follow = 0
+        self.target = 0
         self.after = []
         self.label = []
         self.old = []

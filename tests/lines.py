@@ -4,6 +4,8 @@ from lawdays.book import answers
 
 MOST_NUMBERS = 31000
 MOST_CALLS = 2000
+LAST_DAY = 1048576
+LAST_NUMBER = 4294967295
 
 
 class Untouchable(list):
@@ -50,6 +52,34 @@ def name(law=0, label="a", to="b", follow=0, begins=0, till=0):
     return [6, law, follow, begins, till] + row(label) + row(to)
 
 
+def void(command=0):
+    return [7, command]
+
+
+def read(label="a", on=0, known=LAST_DAY, law=0):
+    return [8, law, on, known] + row(label)
+
+
+def labels(on=0, known=LAST_DAY, law=0):
+    return [9, law, on, known]
+
+
+def origin(label="a", on=0, known=LAST_DAY, law=0):
+    return [10, law, on, known] + row(label)
+
+
+def idle(on=0, known=LAST_DAY):
+    return [11, on, known]
+
+
+def broken(k=0, on=0, known=LAST_DAY, law=0):
+    return [12, law, on, known, k]
+
+
+def next_day(label="a", on=0, known=LAST_DAY, law=0):
+    return [13, law, on, known] + row(label)
+
+
 COMMANDS = {"put": put, "take": take, "text": text, "word": word, "name": name}
 
 
@@ -86,3 +116,71 @@ def ask_numbers(*calls):
     for answer in found:
         assert len(answer) == 1, "an answer is not a number alone"
     return [answer[0] for answer in found]
+
+
+def signs(numbers):
+    return "".join(chr(number) for number in numbers)
+
+
+def cut_rows(numbers):
+    """Texts that were written with how many bytes they have before each."""
+    found = []
+    place = 0
+    while place < len(numbers):
+        size = numbers[place]
+        assert place + 1 + size <= len(numbers), "a row is shorter than told"
+        found.append(signs(numbers[place + 1:place + 1 + size]))
+        place += 1 + size
+    return found
+
+
+def meaning(call, answer):
+    """What an answer to a question says: a refusal as its number, else a text, a list, a pair, a day or None."""
+    kind = call[0]
+    if answer[0] < 0:
+        assert len(answer) == 1, "a refusal does not stand alone"
+        return answer[0]
+    if kind in (12, 13) and answer[0] == 0:
+        assert len(answer) == 1, "there is something behind none"
+        return None
+    assert answer[0] == (1 if kind in (12, 13) else 0), "the first number is neither told nor found"
+    rest = answer[1:]
+    if kind == 8:
+        return signs(rest)
+    if kind == 9:
+        found = cut_rows(rest[1:])
+        assert len(found) == rest[0], "there are not as many labels as told"
+        return found
+    if kind == 10:
+        assert len(rest) % 2 == 0, "a row has no command"
+        return list(zip(rest[0::2], rest[1::2]))
+    if kind == 11:
+        return rest
+    if kind == 12:
+        section, reference = cut_rows(rest)
+        return section, reference
+    (day,) = rest
+    return day
+
+
+def tell(calls, *questions):
+    """What the answers to the questions say, behind the calls; of one question its answer alone."""
+    found = ask(*calls, *questions)[len(calls):]
+    meanings = [meaning(question, answer) for question, answer in zip(questions, found, strict=True)]
+    return meanings[0] if len(questions) == 1 else meanings
+
+
+def sections(calls, on=0, known=LAST_DAY, law=0):
+    """The law's sections: label and text of each."""
+    found = tell(calls, labels(on, known, law))
+    return [(label, tell(calls, read(label, on, known, law))) for label in found]
+
+
+def all_broken(calls, on=0, known=LAST_DAY, law=0):
+    """All broken references, with one asked for behind the last."""
+    found = []
+    while True:
+        pair = tell(calls, broken(len(found), on, known, law))
+        if pair is None:
+            return found
+        found.append(pair)

@@ -183,6 +183,79 @@ class Within(unittest.TestCase):
                     self.assertIsInstance(right, ast.Constant, name)
                     self.assertIn(right.value, (None, True, False), name)
 
+    def test_L15_no_local_is_called_like_an_import_or_a_class(self):
+        for name, tree in TREES.items():
+            taken = [alias.name for node in tree.body if isinstance(node, ast.ImportFrom) for alias in node.names]
+            taken += [node.name for node in tree.body if isinstance(node, (ast.ClassDef, ast.FunctionDef))]
+            for node in ast.walk(tree):
+                if isinstance(node, ast.arg):
+                    self.assertNotIn(node.arg, taken, name)
+                if isinstance(node, ast.Name) and isinstance(node.ctx, ast.Store):
+                    self.assertNotIn(node.id, taken, name)
+
+    def test_L15_what_stands_at_the_top_is_numbers_alone(self):
+        # Narrower than the rule: a list or dict that is not there can't be changed or handed on.
+        for name, tree in TREES.items():
+            for node in tree.body:
+                if isinstance(node, ast.Assign):
+                    self.assertIsInstance(ast.literal_eval(node.value), int, (name, node.lineno))
+
+    def test_L13_L24_no_sets(self):
+        self.assertEqual(nodes(ast.Set), [])
+        for name, node in nodes(ast.Name):
+            self.assertNotIn(node.id, ("set", "frozenset"), name)
+
+    def test_L13_one_lambda_a_line(self):
+        lines = [(name, node.lineno) for name, node in nodes(ast.Lambda)]
+        self.assertEqual(len(lines), len(set(lines)))
+
+    def test_L19_no_errors_are_raised_or_taken(self):
+        # Narrower than the rule: the document names no error.
+        self.assertEqual(nodes((ast.Try, ast.Raise, ast.ExceptHandler)), [])
+
+    def test_L21_no_annotations(self):
+        for name, node in nodes(ast.FunctionDef):
+            self.assertIsNone(node.returns, (name, node.name))
+        for name, node in nodes(ast.arg):
+            self.assertIsNone(node.annotation, (name, node.arg))
+
+    def test_L22_pythons_own_are_called_on_the_spot(self):
+        called = [node.func for _, node in nodes(ast.Call)]
+        for name, node in nodes(ast.Name):
+            if hasattr(builtins, node.id):
+                self.assertIn(node, called, (name, node.id))
+        for name, node in nodes(ast.Call):
+            for keyword in node.keywords:
+                self.assertEqual((node.func.id, keyword.arg), ("sorted", "key"), (name, node.lineno))
+
+    def test_L23_walked_at_once(self):
+        walked = [node.iter for _, node in nodes((ast.For, ast.comprehension))]
+        for name, node in nodes(ast.Call):
+            word = getattr(node.func, "id", getattr(node.func, "attr", ""))
+            if word in ("zip", "enumerate", "reversed", "range", "items", "keys", "values"):
+                self.assertIn(node, walked, (name, node.lineno))
+
+    def test_L23_what_a_loop_walks_is_not_changed_in_it(self):
+        changes = "append clear extend insert pop remove reverse setdefault update".split()
+        for name, loop in nodes(ast.For):
+            walked = [ast.unparse(part) for part in ast.walk(loop.iter) if isinstance(part, (ast.Name, ast.Attribute))]
+            for node in [inner for part in loop.body for inner in ast.walk(part)]:
+                if isinstance(node, ast.Call) and getattr(node.func, "attr", "") in changes:
+                    self.assertNotIn(ast.unparse(node.func.value), walked, (name, node.lineno))
+                if isinstance(node, ast.Subscript) and isinstance(node.ctx, ast.Store):
+                    self.assertNotIn(ast.unparse(node.value), walked, (name, node.lineno))
+
+    def test_L27_numbers_and_signs(self):
+        self.assertEqual(nodes(ast.Pow), [])
+        for path in files():
+            self.assertNotIn("\\", path.read_text(), path)
+
+    def test_L28_no_method_with_two_underscores_but_init(self):
+        for name, node in nodes(ast.FunctionDef):
+            if node.name.startswith("_"):
+                self.assertEqual(node.name, "__init__", name)
+                self.assertFalse([part for part in ast.walk(node) if isinstance(part, ast.Return)], name)
+
 
 if __name__ == "__main__":
     unittest.main()
